@@ -1,0 +1,93 @@
+"""The names of the interface, their parameters, and that each one is defined in its own file."""
+
+import ast
+import importlib
+import inspect
+import pathlib
+import unittest
+
+PACKAGE = pathlib.Path(__file__).parent.parent / "bendsigns"
+
+FUNCTIONS = {
+    "checks": {
+        "is_integer": ["value"], "is_within": ["value", "least", "most"], "is_place": ["value"],
+        "are_integers": ["value"], "is_word": ["value"], "is_name": ["value"], "rest": ["number", "by"],
+        "common_divisor": ["values"], "whole_root": ["number"],
+    },
+    "papers": {"fixed": ["value"]},
+    "words": {"is_running": ["word"], "is_rising": ["four", "word"]},
+    "leasts": {
+        "least": ["four"], "rim": ["four"], "least_bends": ["four"], "alike": ["one", "other"],
+        "shows_least": ["four", "value"],
+    },
+}
+
+CLASSES = {
+    "errors": {
+        "BendError": {}, "BadNumber": {"__init__": ["part"]}, "BadFour": {"__init__": ["part"]},
+        "BadWord": {"__init__": ["part"]}, "BadForm": {"__init__": ["part"]}, "BadKind": {"__init__": ["part"]},
+        "BadPair": {"__init__": ["part"]}, "BadPaper": {"__init__": ["part"]}, "BadDesk": {"__init__": ["part"]},
+        "Misfit": {"__init__": ["part"]}, "Missing": {"__init__": ["value"]}, "NoPlace": {"__init__": ["value"]},
+        "NoName": {"__init__": ["value"]}, "Twice": {"__init__": ["value"]}, "Impossible": {"__init__": ["paper"]},
+        "TooMany": {"__init__": ["what", "most"]}, "Flat": {}, "Nothing": {},
+        "BadText": {"__init__": ["line", "item"]}, "BadLine": {"__init__": ["line", "error"]},
+    },
+    "papers": {
+        "Paper": {"__init__": ["word", "parts"], "__eq__": ["other"], "__bool__": []},
+        "Denial": {"__init__": ["word", "parts"], "__eq__": ["other"], "__bool__": []},
+    },
+    "fours": {
+        "Four": {
+            "__init__": ["bends"], "__eq__": ["other"], "__str__": [], "read": ["text"], "exchanged": ["place"],
+            "after": ["word"], "in_order": ["places"],
+        },
+    },
+    "leasts": {
+        "Least": {"__init__": ["four", "letters"]}, "Alike": {"__init__": ["places"]},
+        "Unlike": {"__init__": ["bends", "other_bends"]},
+    },
+    "forms": {
+        "Form": {
+            "__init__": ["first", "half", "last"], "__eq__": ["other"], "__str__": [], "read": ["text"],
+            "worth": ["x", "y"], "changed": ["p", "q", "r", "s"], "mirrored": [],
+        },
+    },
+}
+
+
+def defined(name):
+    """The functions and classes that a file defines, by their names."""
+    tree = ast.parse((PACKAGE / f"{name}.py").read_text())
+    return {node.name: node for node in tree.body if isinstance(node, (ast.FunctionDef, ast.ClassDef))}
+
+
+class Interface(unittest.TestCase):
+    """Each name of the interface."""
+
+    def test_functions(self):
+        for name, functions in FUNCTIONS.items():
+            module = importlib.import_module(f"bendsigns.{name}")
+            for function, wanted in functions.items():
+                self.assertIsInstance(defined(name).get(function), ast.FunctionDef, (name, function))
+                told = inspect.signature(getattr(module, function)).parameters
+                self.assertEqual(list(told), wanted, (name, function))
+                self.assertTrue(all(each.default is each.empty for each in told.values()))
+
+    def test_classes(self):
+        for name, classes in CLASSES.items():
+            module = importlib.import_module(f"bendsigns.{name}")
+            for made, methods in classes.items():
+                self.assertIsInstance(defined(name).get(made), ast.ClassDef, (name, made))
+                own = vars(getattr(module, made))
+                for method, wanted in methods.items():
+                    self.assertIn(method, own, (name, made))
+                    told = list(inspect.signature(getattr(getattr(module, made), method)).parameters)
+                    self.assertEqual([each for each in told if each != "self"], wanted, (name, made, method))
+
+    def test_package(self):
+        self.assertEqual(defined("__init__"), {})
+        importlib.import_module("bendsigns")
+
+
+if __name__ == "__main__":
+    unittest.main()

@@ -1,0 +1,112 @@
+"""Plain walks and trials of the tests' own, with which the answers of the package are compared."""
+
+import math
+
+
+def exchanged(bends, place):
+    """The bends with the other of the two integers that fit with the other three at a place."""
+    others = [bend for at, bend in enumerate(bends) if at != place]
+    return tuple(2 * sum(others) - bend if at == place else bend for at, bend in enumerate(bends))
+
+
+def walked(bends, word):
+    """The bends at the end of a word."""
+    for place in word:
+        bends = exchanged(bends, place)
+    return tuple(bends)
+
+
+def fits(bends):
+    """Whether bends are a four, as the document says it."""
+    touch = 2 * sum(bend * bend for bend in bends) == sum(bends) ** 2
+    return touch and sum(bends) > 0 and math.gcd(*bends) == 1
+
+
+def words_up_to(length, places=(0, 1, 2, 3)):
+    """All words of these places in which no letter follows itself, by length, as tuples."""
+    rows = [()]
+    for word in rows:
+        yield word
+        if len(word) < length:
+            rows.extend(word + (place,) for place in places if word[-1:] != (place,))
+
+
+def lowered(bends):
+    """The least four below bends and the letters back up, by trying all exchanges."""
+    letters = []
+    while True:
+        down = [place for place in range(4) if exchanged(bends, place)[place] < bends[place]]
+        if not down:
+            return tuple(bends), tuple(reversed(letters))
+        bends = exchanged(bends, down[0])
+        letters.append(down[0])
+
+
+def is_least(bends):
+    """Whether no exchange makes a bend less."""
+    return all(exchanged(bends, place)[place] >= bends[place] for place in range(4))
+
+
+def circles_round(bends, place, most):
+    """(bend, word, at) of all circles up to most that touch the one at a place, by walking without its letter."""
+    found = [(bends[at], (), at) for at in range(4) if at != place and bends[at] <= most]
+    rows = [(tuple(bends), ())]
+    while rows:
+        now, word = rows.pop()
+        for at in range(4):
+            if at == place or word[-1:] == (at,):
+                continue
+            then = exchanged(now, at)
+            if then[at] <= most:
+                found.append((then[at], word + (at,), at))
+            # An exchange that made the bend greater than most is followed by greater ones alone.
+            if then[at] <= most or then[at] < now[at]:
+                rows.append((then, word + (at,)))
+    return found
+
+
+def least_fours(rim):
+    """All least fours with ascending bends and this rim, by trying all pairs of the next two bends."""
+    found = []
+    for near in range(1, 2 * rim + 2):
+        for middle in range(near, (rim * rim + near * near // 4) // near + 2):
+            first, second = near - rim, middle - rim
+            for one, other in ((near + rim, middle + rim), (first, second)):
+                found.extend(ends(rim, one, other))
+    return sorted(set(found))
+
+
+def ends(rim, one, other):
+    """The least fours that begin with a rim and two more bends."""
+    inner = one * other - rim * (one + other)
+    if inner < 0:
+        return
+    root = math.isqrt(inner)
+    if root * root == inner:
+        for last in (one + other - rim - 2 * root, one + other - rim + 2 * root):
+            bends = (-rim, one, other, last)
+            if list(bends) == sorted(bends) and fits(bends) and is_least(bends):
+                yield bends
+
+
+def least_numbers(side):
+    """The numbers of all least forms of a side, those with a half below 0, too, by trying all first and half."""
+    found = []
+    for first in range(1, 2 * side + 1):
+        for half in range(-first, first + 1):
+            last, over = divmod(side * side + half * half, first)
+            if over == 0 and math.gcd(first, half, last) == 1 and is_least_form((first, half, last)):
+                found.append((first, half, last))
+    return sorted(found)
+
+
+def is_least_form(numbers):
+    """Whether numbers are those of a least form, as the document says it."""
+    first, half, last = numbers
+    return -first < 2 * half <= first <= last and (first != last or half >= 0)
+
+
+def told_pairs(bound):
+    """All told pairs with numbers of at most bound."""
+    pairs = [(x, y) for x in range(1, bound + 1) for y in range(-bound, bound + 1) if math.gcd(x, y) == 1]
+    return [(0, 1)] + pairs
