@@ -20,6 +20,22 @@ FUNCTIONS = {
         "least": ["four"], "rim": ["four"], "least_bends": ["four"], "alike": ["one", "other"],
         "shows_least": ["four", "value"],
     },
+    "leastforms": {
+        "least_form": ["form"], "alike_forms": ["one", "other"], "shows_least_form": ["form", "value"],
+        "shows_alike_forms": ["one", "other", "value"],
+    },
+    "around": {"form_at": ["four", "place"], "four_from": ["form", "is_rim"]},
+    "touching": {
+        "touching": ["four", "place", "most"], "word_to": ["four", "place", "x", "y"],
+        "touches": ["four", "place", "number"],
+    },
+    "check_touching": {"shows_touches": ["four", "place", "number", "value"]},
+    "rims": {"least_forms": ["side"], "rim_fours": ["rim"], "is_own_mirror": ["four"]},
+    "counts": {
+        "prime_powers": ["number"], "many_least_forms": ["side"], "many_own_mirrors": ["rim"],
+        "many_rim_fours": ["rim"], "many_touching": ["four", "place", "number"],
+    },
+    "check_rims": {"shows_least_forms": ["side", "value"], "shows_rim_fours": ["rim", "value"]},
 }
 
 CLASSES = {
@@ -51,6 +67,14 @@ CLASSES = {
             "__init__": ["first", "half", "last"], "__eq__": ["other"], "__str__": [], "read": ["text"],
             "worth": ["x", "y"], "changed": ["p", "q", "r", "s"], "mirrored": [],
         },
+    },
+    "leastforms": {
+        "LeastForm": {"__init__": ["form", "change"]}, "AlikeForms": {"__init__": ["change"]},
+        "UnlikeForms": {"__init__": ["form", "other_form"]},
+    },
+    "touching": {
+        "Way": {"__init__": ["letters", "at"]}, "Touching": {"__init__": ["x", "y"]},
+        "Untouched": {"__init__": ["forms"]},
     },
 }
 

@@ -3,13 +3,18 @@
 import unittest
 
 from bendsigns.fours import Four
+from bendsigns.leastforms import AlikeForms, LeastForm, UnlikeForms
 from bendsigns.leasts import Alike, Least, Unlike
 from bendsigns.papers import Denial, Paper, fixed
+from bendsigns.touching import Touching, Untouched, Way
 from tests.helps import ODD_VALUES, Case, Looser, look_alike
 
 CLASSES = (
     (Least, Paper, "least", ("four", "letters")), (Alike, Paper, "alike", ("places",)),
-    (Unlike, Denial, "unlike", ("bends", "other_bends")),
+    (Unlike, Denial, "unlike", ("bends", "other_bends")), (LeastForm, Paper, "leastform", ("form", "change")),
+    (AlikeForms, Paper, "alikeforms", ("change",)), (UnlikeForms, Denial, "unlikeforms", ("form", "other_form")),
+    (Way, Paper, "way", ("letters", "at")), (Touching, Paper, "touching", ("x", "y")),
+    (Untouched, Denial, "untouched", ("forms",)),
 )
 
 
