@@ -55,6 +55,11 @@ def least(four):
     return Least(Four(bends), letters[::-1])
 
 
+def is_flat(least_four):
+    """Whether a least four is flat: any other one has a bend below 0."""
+    return min(least_four.bends) == 0
+
+
 def rim(four):
     """The rim of the gasket of a four, 0 for a flat one."""
     return -min(least(four).four.bends)

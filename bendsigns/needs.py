@@ -1,7 +1,7 @@
 """What many functions ask of the numbers, places and words that they are passed."""
 
 from bendsigns.checks import is_integer, is_place, is_within, is_word
-from bendsigns.errors import BadNumber, BadWord, NoPlace, TooMany
+from bendsigns.errors import BadNumber, BadWord, NoPlace, TooMany, Twice
 
 MOST_LETTERS = 200
 
@@ -22,6 +22,14 @@ def need_place(value):
     """Raise NoPlace for what is no place."""
     if not is_place(value):
         raise NoPlace(value)
+
+
+def need_unlike_places(place, other):
+    """Raise NoPlace for what is no place, Twice for the same place once more."""
+    need_place(place)
+    need_place(other)
+    if place == other:
+        raise Twice(other)
 
 
 def need_word(value, part):

@@ -1,5 +1,7 @@
 """Papers, which tell an answer and what shows it, and denials, the papers that say no."""
 
+from bendsigns.checks import is_integer
+
 
 def fixed(value):
     """Any value with tuples in the place of lists, all the way in."""
@@ -11,6 +13,18 @@ def fixed(value):
 def is_named(paper, name):
     """Whether a paper was made by calling the class of this name itself, not one below it."""
     return paper.__class__.__name__ == name
+
+
+def is_just(value, wanted):
+    """Whether any value is just these integers, in tuples as wanted has them, and None where it has None."""
+    if isinstance(wanted, tuple):
+        if not isinstance(value, tuple) or len(value) != len(wanted):
+            return False
+        return all([is_just(value[index], wanted[index]) for index in range(len(wanted))])
+    if wanted is None:
+        return value is None
+    # True and False equal numbers, but stand for none.
+    return is_integer(value) and value == wanted
 
 
 def are_same(paper, other):

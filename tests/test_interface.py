@@ -36,6 +36,16 @@ FUNCTIONS = {
         "many_rim_fours": ["rim"], "many_touching": ["four", "place", "number"],
     },
     "check_rims": {"shows_least_forms": ["side", "value"], "shows_rim_fours": ["rim", "value"]},
+    "turned": {"turned": ["four", "place"], "turned_out": ["four", "bend"]},
+    "pedigrees": {"pedigree": ["four"], "built": ["base", "steps"], "shows_pedigree": ["four", "value"]},
+    "kinds": {"kind_of": ["four"]},
+    "rests": {
+        "fours_by": ["four", "modulus"], "rests": ["four", "modulus"], "many_fours": ["modulus"],
+        "met": ["four", "modulus", "row"],
+    },
+    "check_rests": {"shows_met": ["four", "modulus", "row", "value"]},
+    "symbols": {"symbol": ["number", "by"], "steps_of": ["number", "by"]},
+    "fans": {"fan": ["four", "place", "other"], "between": ["four", "place", "other"]},
 }
 
 CLASSES = {
@@ -76,6 +86,11 @@ CLASSES = {
         "Way": {"__init__": ["letters", "at"]}, "Touching": {"__init__": ["x", "y"]},
         "Untouched": {"__init__": ["forms"]},
     },
+    "pedigrees": {"Pedigree": {"__init__": ["rims", "base", "steps"]}},
+    "kinds": {"Kind": {"__init__": ["odd", "third"], "__eq__": ["other"], "__str__": [], "read": ["text"]}},
+    "rests": {"Met": {"__init__": ["letters"]}, "Unmet": {"__init__": ["by"]}},
+    "symbols": {"Steps": {"__init__": ["rows", "value"]}},
+    "fans": {"Between": {"__init__": ["letters", "at"]}},
 }
 
 

@@ -17,7 +17,8 @@ SYNTAX = {
     "For", "While", "If", "Raise", "Try", "ExceptHandler", "Expr", "Attribute", "Subscript", "Slice", "Starred", "Name",
     "List", "Tuple", "ListComp", "comprehension", "Lambda", "BoolOp", "And", "Or", "BinOp", "Add", "Sub", "Mult",
     "FloorDiv", "Mod", "UnaryOp", "USub", "Not", "IfExp", "Compare", "Eq", "NotEq", "Lt", "LtE", "Gt", "GtE", "In",
-    "NotIn", "Is", "IsNot", "Call", "keyword", "Constant", "Load", "Store",
+    "NotIn", "Is", "IsNot", "Call", "keyword", "Constant", "Load", "Store", "Yield",
+    "Dict",
 }
 LIBRARY = {"math": {"gcd", "lcm", "isqrt", "comb", "perm", "factorial"}}
 BUILTINS = set(
@@ -237,6 +238,74 @@ class Statements(unittest.TestCase):
         for name, node in nodes(ast.Call):
             if isinstance(node.func, ast.Name) and node.func.id in ITERATED:
                 self.assertIn(node, fine, (name, node.lineno))
+
+
+class Tables(unittest.TestCase):
+    """Dicts and lists at module level, sets."""
+
+    def test_tables_are_only_read(self):
+        for name, tree in TREES.items():
+            tables = {node.targets[0].id for node in tree.body
+                      if isinstance(node, ast.Assign) and isinstance(node.value, (ast.Dict, ast.List))}
+            fine = [node.value for node in ast.walk(tree)
+                    if isinstance(node, ast.Subscript) and isinstance(node.ctx, ast.Load)]
+            for node in ast.walk(tree):
+                if isinstance(node, ast.Name) and node.id in tables and isinstance(node.ctx, ast.Load):
+                    self.assertIn(node, fine, (name, node.id, node.lineno))
+            for node in tree.body:
+                if isinstance(node, ast.Assign) and isinstance(node.value, (ast.Dict, ast.List, ast.Tuple)):
+                    inner = [each for each in ast.walk(node.value) if each is not node.value]
+                    self.assertFalse([each for each in inner if isinstance(each, (ast.Dict, ast.List))])
+
+    def test_sets_stand_in_sorted(self):
+        fine = [node.args[0] for name, node in nodes(ast.Call)
+                if isinstance(node.func, ast.Name) and node.func.id in ("sorted", "len") and not node.keywords and node.args]
+        for name, node in nodes(ast.Call):
+            if isinstance(node.func, ast.Name) and node.func.id == "set":
+                self.assertIn(node, fine, (name, node.lineno))
+
+
+class Generators(unittest.TestCase):
+    """Functions that yield: what stands in them, and where they are called."""
+
+    def generators(self):
+        """(file, function) for all functions that yield."""
+        return [(name, node) for name, node in nodes(ast.FunctionDef)
+                if any(isinstance(each, ast.Yield) for each in ast.walk(node))]
+
+    def test_what_stands_in_them(self):
+        for name, node in self.generators():
+            self.assertIn(node, TREES[name].body)
+            self.assertEqual(node.decorator_list, [])
+            statements = [each.value for each in ast.walk(node) if isinstance(each, ast.Expr)]
+            for each in ast.walk(node):
+                self.assertNotIsInstance(each, (ast.Try, ast.With, ast.Lambda))
+                if isinstance(each, ast.Yield):
+                    self.assertIn(each, statements)
+                if isinstance(each, ast.Return):
+                    self.assertIsNone(each.value)
+
+    def test_names(self):
+        told = [node.name for name, node in self.generators()]
+        every = [node.name for name, node in nodes(ast.FunctionDef)]
+        bound = {node.id for name, node in nodes(ast.Name) if isinstance(node.ctx, ast.Store)}
+        bound.update(each for name, node in nodes((ast.FunctionDef, ast.Lambda)) for each in parameters(node))
+        for each in told:
+            self.assertEqual(every.count(each), 1)
+            self.assertNotIn(each, METHODS | bound)
+
+    def test_calls(self):
+        told = {node.name for name, node in self.generators()}
+        loops = [node.iter for name, node in nodes((ast.For, ast.comprehension))]
+        for name, node in nodes(ast.Call):
+            if isinstance(node.func, ast.Name) and node.func.id in told:
+                self.assertIn(node, loops, (name, node.lineno))
+                for each in node.args:
+                    self.assertIsInstance(each, (ast.Name, ast.Attribute, ast.Constant))
+        called = [node.func for name, node in nodes(ast.Call)]
+        for name, node in nodes(ast.Name):
+            if node.id in told:
+                self.assertIn(node, called, (name, node.lineno))
 
 
 class Expressions(unittest.TestCase):

@@ -2,10 +2,14 @@
 
 import unittest
 
+from bendsigns.fans import Between
 from bendsigns.fours import Four
 from bendsigns.leastforms import AlikeForms, LeastForm, UnlikeForms
 from bendsigns.leasts import Alike, Least, Unlike
-from bendsigns.papers import Denial, Paper, fixed
+from bendsigns.papers import Denial, Paper, fixed, is_just
+from bendsigns.pedigrees import Pedigree
+from bendsigns.rests import Met, Unmet
+from bendsigns.symbols import Steps
 from bendsigns.touching import Touching, Untouched, Way
 from tests.helps import ODD_VALUES, Case, Looser, look_alike
 
@@ -14,7 +18,9 @@ CLASSES = (
     (Unlike, Denial, "unlike", ("bends", "other_bends")), (LeastForm, Paper, "leastform", ("form", "change")),
     (AlikeForms, Paper, "alikeforms", ("change",)), (UnlikeForms, Denial, "unlikeforms", ("form", "other_form")),
     (Way, Paper, "way", ("letters", "at")), (Touching, Paper, "touching", ("x", "y")),
-    (Untouched, Denial, "untouched", ("forms",)),
+    (Untouched, Denial, "untouched", ("forms",)), (Pedigree, Paper, "pedigree", ("rims", "base", "steps")),
+    (Met, Paper, "met", ("letters",)), (Unmet, Denial, "unmet", ("by",)), (Steps, Paper, "steps", ("rows", "value")),
+    (Between, Paper, "between", ("letters", "at")),
 )
 
 
@@ -39,6 +45,21 @@ class Fixed(Case):
             value, wanted = [value], (wanted,)
         self.assertEqual(fixed(value), wanted)
         self.assertEqual(fixed([[1]] * 4000), ((1,),) * 4000)
+
+
+class Just(Case):
+    """Whether a value is just some integers."""
+
+    def test_numbers(self):
+        for value, wanted, right in (
+            (1, 1, True), (True, 1, False), (1.0, 1, False), (2, 1, False), ("1", 1, False), (None, None, True),
+            (0, None, False), (False, None, False), (None, 0, False), ((1,), 1, False), (1, (1,), False),
+            ((), (), True), ([], (), False), ((1, (2, None)), (1, (2, None)), True), ((1, (2, 0)), (1, (2, None)), False),
+            ((1, 2), (1, 2, 3), False), ((1, 2, 3), (1, 2), False), ((1, True), (1, 1), False), ("ab", (1, 2), False),
+            ((1, (True, 2)), (1, (1, 2)), False), (Looser(), 1, False), (Looser(), (1,), False), ((Looser(),), (1,), False),
+            (Looser(), None, False),
+        ):
+            self.assertIs(is_just(value, wanted), right, (value, wanted))
 
 
 class Papers(Case):
@@ -79,8 +100,8 @@ class Classes(Case):
     """All classes of papers of these stages."""
 
     def test_parts_and_attributes(self):
-        values = ([1, [2]], ("x", [None]))
-        told = ((1, (2,)), ("x", (None,)))
+        values = ([1, [2]], ("x", [None]), [[[]]], [0, True])
+        told = ((1, (2,)), ("x", (None,)), (((),),), (0, True))
         for made, base, word, names in CLASSES:
             count = len(names)
             for paper in (made(*values[:count]), made(**dict(zip(names, values)))):
@@ -99,7 +120,7 @@ class Classes(Case):
 
     def test_equality(self):
         for made, base, word, names in CLASSES:
-            values = [[1], [2]][:len(names)]
+            values = [[1], [2], [3], [4]][:len(names)]
             paper = made(*values)
             self.assert_true(paper == made(*[tuple(value) for value in values]))
             self.assert_false(paper == made(*[[9] for value in values]))

@@ -110,3 +110,46 @@ def told_pairs(bound):
     """All told pairs with numbers of at most bound."""
     pairs = [(x, y) for x in range(1, bound + 1) for y in range(-bound, bound + 1) if math.gcd(x, y) == 1]
     return [(0, 1)] + pairs
+
+
+def turn(bends, place):
+    """The bends, turned at a place: the bend there with the other sign, each other one with twice it more."""
+    here = bends[place]
+    return tuple(-here if at == place else bend + here + here for at, bend in enumerate(bends))
+
+
+def way_down(bends):
+    """The rims, the base and the steps of the pedigree of bends, by leading down and turning."""
+    rims, steps = [], []
+    least, letters = lowered(bends)
+    while sorted(least) != [0, 0, 1, 1]:
+        place = [at for at in range(4) if least[at] < 0][0]
+        rims.append(-least[place])
+        steps.insert(0, (place, letters))
+        bends = turn(least, place)
+        least, letters = lowered(bends)
+    return tuple(rims), tuple(bends), tuple(steps)
+
+
+def along(bends, steps):
+    """The bends to which steps lead, and the bends at which they turned."""
+    turns = []
+    for place, word in steps:
+        turns.append(bends[place])
+        bends = walked(turn(bends, place), word)
+    return tuple(bends), turns
+
+
+def fours_near(bends, most):
+    """All fours, as bends, one exchange at most beyond those of a gasket with no bend above most."""
+    start = lowered(bends)[0]
+    seen, left = {start}, [start]
+    while left:
+        now = left.pop()
+        for place in range(4):
+            then = exchanged(now, place)
+            if then not in seen:
+                seen.add(then)
+                if max(then) <= most:
+                    left.append(then)
+    return seen
