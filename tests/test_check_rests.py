@@ -92,7 +92,7 @@ class Wrong(Case):
     def test_errors(self):
         for value in ODD_VALUES + ((-3, 5, 8, 8), [0, 0, 1, 1], 0):
             self.assert_error(BadFour("four"), shows_met, value, None, None, Met(()))
-        for value in ODD_VALUES + (1, 0, 14, 23, 25, -2, [2], 10 ** 60):
+        for value in ODD_VALUES + (3.0, 24.0, 1, 0, 14, 23, 25, -2, [2], 10 ** 60):
             self.assert_error(BadNumber("modulus"), shows_met, COINS, value, None, Met(()))
         for value, modulus in itertools.product(ODD_VALUES + ((0, 0, 0), (0, 0, 0, 24), (0, 0, 0, -1), (0, 0, 0, True)),
                                                 (5, 24)):

@@ -46,6 +46,22 @@ FUNCTIONS = {
     "check_rests": {"shows_met": ["four", "modulus", "row", "value"]},
     "symbols": {"symbol": ["number", "by"], "steps_of": ["number", "by"]},
     "fans": {"fan": ["four", "place", "other"], "between": ["four", "place", "other"]},
+    "signs": {
+        "pair_sign": ["one", "other"], "sign": ["four"], "turn_sign": ["bend"], "pedigree_sign": ["four"],
+    },
+    "check_signs": {
+        "shows_steps": ["number", "by", "value"], "shows_between": ["four", "place", "other", "value"],
+        "shows_sign": ["four", "value"],
+    },
+    "lists": {"circles": ["four", "most"]},
+    "families": {
+        "need": ["kind", "k"], "family_of": ["number"], "families": ["four"], "first_member": ["four", "k", "most"],
+    },
+    "fourthsymbols": {
+        "fourth_symbol": ["number", "by"], "fourth_steps": ["number", "by"],
+        "shows_fourth_steps": ["number", "by", "value"],
+    },
+    "leads": {"lead": ["four", "place", "other"]},
 }
 
 CLASSES = {
@@ -91,6 +107,15 @@ CLASSES = {
     "rests": {"Met": {"__init__": ["letters"]}, "Unmet": {"__init__": ["by"]}},
     "symbols": {"Steps": {"__init__": ["rows", "value"]}},
     "fans": {"Between": {"__init__": ["letters", "at"]}},
+    "signs": {"Sign": {"__init__": ["value", "letters", "place", "at"]}},
+    "pairs": {
+        "Pair": {
+            "__init__": ["one", "other"], "__eq__": ["other"], "__add__": ["other"], "__sub__": ["other"],
+            "__mul__": ["other"], "__neg__": [], "__str__": [], "read": ["text"], "flipped": [], "times_i": ["power"],
+            "is_primary": [], "divided": ["by"], "common": ["other"], "odd_part": [], "primary": [],
+        },
+    },
+    "fourthsymbols": {"FourthSteps": {"__init__": ["rows", "value"]}},
 }
 
 

@@ -46,9 +46,9 @@ class Kinds(Case):
             self.assert_false(Kind(5, 2) == other)
 
     def test_errors(self):
-        for value in ODD_VALUES + (0, 2, 4, 6, 7, -1, -3, 9, 10 ** 60 + 1, [1], []):
+        for value in ODD_VALUES + (1.0, 5.0, 0, 2, 4, 6, 7, -1, -3, 9, 10 ** 60 + 1, [1], []):
             self.assert_error(BadNumber("odd"), Kind, value, None)
-        for value in ODD_VALUES + (0, 3, -1, 10 ** 60, [1], []):
+        for value in ODD_VALUES + (1.0, 2.0, 0, 3, -1, 10 ** 60, [1], []):
             self.assert_error(BadNumber("third"), Kind, 1, value)
 
 

@@ -34,6 +34,7 @@ METHODS = set(
 )
 DOUBLE = {"__init__", "__eq__", "__repr__", "__str__", "__len__", "__bool__", "__contains__", "__call__", "__add__",
           "__sub__", "__mul__", "__neg__"}
+ARITHMETIC = {"__add__", "__sub__", "__mul__"}
 BARRED = set(
     "type typing typing_extensions enum Enum IntEnum StrEnum Flag IntFlag Generic Protocol ABC ABCMeta namedtuple "
     "NamedTuple TypedDict TYPE_CHECKING abstractmethod".split()
@@ -217,6 +218,22 @@ class Statements(unittest.TestCase):
                 self.assertFalse([each for each in ast.walk(node) if isinstance(each, ast.Return)])
             self.assertIsNone(node.returns)
 
+    def test_double_underscore_methods_change_nothing(self):
+        for name, node in nodes(ast.FunctionDef):
+            if node.name in DOUBLE - {"__init__", "__call__"}:
+                for each in ast.walk(node):
+                    self.assertNotIsInstance(each, (ast.AugAssign, ast.Yield, ast.Try, ast.Delete), (name, node.name))
+                    if isinstance(each, (ast.Attribute, ast.Subscript)):
+                        self.assertIsInstance(each.ctx, ast.Load, (name, node.name))
+                    if isinstance(each, ast.Call) and isinstance(each.func, ast.Attribute):
+                        self.assertEqual(each.func.attr, "join", (name, node.name))
+            if node.name in ARITHMETIC:
+                told = ast.unparse(node.body[0]).split("\n")
+                self.assertRegex(told[0], r"^if not isinstance\(other, [A-Z][a-z]+\):$")
+                self.assertEqual(told[1].strip(), "return NotImplemented")
+        for name, node in nodes(ast.Attribute):
+            self.assertTrue(not node.attr.startswith("__") or node.attr in ("__init__", "__class__", "__name__"))
+
     def test_errors(self):
         own = error_classes()
         for name, node in nodes(ast.Raise):
@@ -392,6 +409,8 @@ class Expressions(unittest.TestCase):
                     fine.extend(node.bases)
                 if isinstance(node, ast.FunctionDef):
                     fine.extend(node.decorator_list)
+                    if node.name in ARITHMETIC:
+                        fine.extend([each.value for each in ast.walk(node) if isinstance(each, ast.Return)])
             for node in ast.walk(tree):
                 if isinstance(node, ast.Name) and node.id in dir(builtins):
                     self.assertIn(node, fine, (name, node.id, node.lineno))

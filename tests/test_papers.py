@@ -4,11 +4,13 @@ import unittest
 
 from bendsigns.fans import Between
 from bendsigns.fours import Four
+from bendsigns.fourthsymbols import FourthSteps
 from bendsigns.leastforms import AlikeForms, LeastForm, UnlikeForms
 from bendsigns.leasts import Alike, Least, Unlike
 from bendsigns.papers import Denial, Paper, fixed, is_just
 from bendsigns.pedigrees import Pedigree
 from bendsigns.rests import Met, Unmet
+from bendsigns.signs import Sign
 from bendsigns.symbols import Steps
 from bendsigns.touching import Touching, Untouched, Way
 from tests.helps import ODD_VALUES, Case, Looser, look_alike
@@ -20,7 +22,8 @@ CLASSES = (
     (Way, Paper, "way", ("letters", "at")), (Touching, Paper, "touching", ("x", "y")),
     (Untouched, Denial, "untouched", ("forms",)), (Pedigree, Paper, "pedigree", ("rims", "base", "steps")),
     (Met, Paper, "met", ("letters",)), (Unmet, Denial, "unmet", ("by",)), (Steps, Paper, "steps", ("rows", "value")),
-    (Between, Paper, "between", ("letters", "at")),
+    (Between, Paper, "between", ("letters", "at")), (Sign, Paper, "sign", ("value", "letters", "place", "at")),
+    (FourthSteps, Paper, "fourthsteps", ("rows", "value")),
 )
 
 

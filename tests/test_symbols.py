@@ -8,28 +8,10 @@ from bendsigns.errors import BadNumber
 from bendsigns.papers import Paper
 from bendsigns.symbols import Steps, steps_of, symbol
 from tests.helps import ODD_VALUES, Case
+from tests.walks import by_prime, own_symbol
 
 PRIMES = [number for number in range(3, 120) if all(number % other for other in range(2, number))]
 BIG = 10 ** 59 + 9
-
-
-def by_prime(number, prime):
-    """The symbol by an odd prime, by looking at all squares."""
-    if number % prime == 0:
-        return 0
-    return 1 if any((root * root - number) % prime == 0 for root in range(1, prime)) else -1
-
-
-def own_symbol(number, by):
-    """The symbol by an odd integer above 0: the product of those by its primes."""
-    value = 1
-    prime = 3
-    while by > 1:
-        while by % prime == 0:
-            value *= by_prime(number, prime)
-            by //= prime
-        prime += 2
-    return value
 
 
 class Symbols(Case):

@@ -153,3 +153,56 @@ def fours_near(bends, most):
                 if max(then) <= most:
                     left.append(then)
     return seen
+
+
+def by_prime(number, prime):
+    """The symbol by an odd prime, by looking at all squares."""
+    if number % prime == 0:
+        return 0
+    return 1 if any((root * root - number) % prime == 0 for root in range(1, prime)) else -1
+
+
+def own_symbol(number, by):
+    """The symbol by an odd integer above 0: the product of those by its primes."""
+    value = 1
+    prime = 3
+    while by > 1:
+        while by % prime == 0:
+            value *= by_prime(number, prime)
+            by //= prime
+        prime += 2
+    return value
+
+
+def own_pair_sign(one, other):
+    """The sign of a pair of coprime integers, by the primes of the odd one."""
+    number, odd = (one, other) if other % 2 else (other, one)
+    return own_symbol(number if odd % 4 == 1 else 2 * number, abs(odd))
+
+
+def sign_near(bends):
+    """The one sign of all coprime pairs that touch in the fours near the least one of bends."""
+    start = lowered(bends)[0]
+    signs = set()
+    for now in [start] + [exchanged(start, place) for place in range(4)]:
+        for one in now:
+            for other in now:
+                if math.gcd(one, other) == 1 and other % 2:
+                    signs.add(own_pair_sign(one, other))
+    (sign,) = signs
+    return sign
+
+
+def all_circles(bends, most):
+    """(bend, letters, place) for all circles up to a bend, in their order, by walking down all running words."""
+    start = lowered(bends)[0]
+    found = [(bend, 0, (), place) for place, bend in enumerate(start) if bend <= most]
+    left = [(start, ())]
+    while left:
+        now, word = left.pop()
+        for place in range(4):
+            then = exchanged(now, place)
+            if word[-1:] != (place,) and then[place] <= most:
+                found.append((then[place], len(word) + 1, word + (place,), place))
+                left.append((then, word + (place,)))
+    return tuple((bend, word, place) for bend, _, word, place in sorted(found))
