@@ -42,3 +42,9 @@ def need_few_letters(word):
     """Raise TooMany for a word that is too long. It comes behind the errors of all parameters."""
     if len(word) > MOST_LETTERS:
         raise TooMany("letters", MOST_LETTERS)
+
+
+def need_few(many, what, most):
+    """Raise TooMany for more of something than most."""
+    if many > most:
+        raise TooMany(what, most)

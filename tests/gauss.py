@@ -1,6 +1,7 @@
 """Numbers a + b i of the tests' own, as tuples (a, b), with which pairs are compared."""
 
 from fractions import Fraction
+from math import isqrt
 
 UNITS = ((1, 0), (0, 1), (-1, 0), (0, -1))
 
@@ -81,3 +82,33 @@ def by_primes(number, primes):
     """The fourth symbol by a product of odd prime pairs and any unit."""
     told = [by_prime(number, prime) for prime in primes]
     return None if None in told else sum(told) % 4
+
+
+def prime_factors(number):
+    """The odd prime pairs whose product is an odd integer, but for a unit, each as often as it is in it."""
+    left, found = abs(number), []
+    prime = 3
+    while left > 1:
+        if prime * prime > left:
+            prime = left
+        while left % prime == 0:
+            found.extend(split(prime))
+            left //= prime
+        prime += 2
+    return found
+
+
+def split(prime):
+    """The one or two prime pairs of an odd prime."""
+    if prime % 4 == 3:
+        return [(prime, 0)]
+    one = [one for one in range(1, isqrt(prime) + 1) if isqrt(prime - one * one) ** 2 == prime - one * one][0]
+    other = isqrt(prime - one * one)
+    return [(one, other), (one, -other)]
+
+
+def common(p, q):
+    """A pair that divides both and that each such pair divides."""
+    while q != (0, 0):
+        p, q = q, reduced(p, q)
+    return p

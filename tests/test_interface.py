@@ -62,6 +62,18 @@ FUNCTIONS = {
         "shows_fourth_steps": ["number", "by", "value"],
     },
     "leads": {"lead": ["four", "place", "other"]},
+    "fourthsigns": {"fourth_sign": ["four"], "fourth_turn": ["bend"]},
+    "fourthfamilies": {
+        "fourth_need": ["kind", "k"], "fourth_family_of": ["number"], "fourth_families": ["four"],
+    },
+    "check_fourthsigns": {"shows_fourth_sign": ["four", "value"]},
+    "products": {
+        "idle_form": ["side"], "product": ["one", "other"], "contrary": ["form"], "power": ["form", "times"],
+        "order": ["form"], "gasket_product": ["one", "other"],
+    },
+    "localsigns": {"local_signs": ["form"], "sign_by_rim": ["four"]},
+    "squares": {"square_root_of": ["form"], "shows_root": ["form", "value"]},
+    "verdicts": {"verdict": ["four", "number"], "barred": ["four", "number"]},
 }
 
 CLASSES = {
@@ -116,6 +128,13 @@ CLASSES = {
         },
     },
     "fourthsymbols": {"FourthSteps": {"__init__": ["rows", "value"]}},
+    "fourthsigns": {"FourthSign": {"__init__": ["value", "letters", "place", "at"]}},
+    "squares": {"RootOf": {"__init__": ["form"]}, "NoRoot": {"__init__": ["by"]}},
+    "verdicts": {
+        "Comes": {"__init__": ["letters", "place"]}, "ByRest": {"__init__": ["rest"]},
+        "BySign": {"__init__": ["k", "root"]}, "ByFourth": {"__init__": ["k", "root"]},
+        "ByList": {"__init__": ["many"]},
+    },
 }
 
 

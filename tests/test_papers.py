@@ -4,6 +4,7 @@ import unittest
 
 from bendsigns.fans import Between
 from bendsigns.fours import Four
+from bendsigns.fourthsigns import FourthSign
 from bendsigns.fourthsymbols import FourthSteps
 from bendsigns.leastforms import AlikeForms, LeastForm, UnlikeForms
 from bendsigns.leasts import Alike, Least, Unlike
@@ -11,8 +12,10 @@ from bendsigns.papers import Denial, Paper, fixed, is_just
 from bendsigns.pedigrees import Pedigree
 from bendsigns.rests import Met, Unmet
 from bendsigns.signs import Sign
+from bendsigns.squares import NoRoot, RootOf
 from bendsigns.symbols import Steps
 from bendsigns.touching import Touching, Untouched, Way
+from bendsigns.verdicts import ByFourth, ByList, ByRest, BySign, Comes
 from tests.helps import ODD_VALUES, Case, Looser, look_alike
 
 CLASSES = (
@@ -24,6 +27,10 @@ CLASSES = (
     (Met, Paper, "met", ("letters",)), (Unmet, Denial, "unmet", ("by",)), (Steps, Paper, "steps", ("rows", "value")),
     (Between, Paper, "between", ("letters", "at")), (Sign, Paper, "sign", ("value", "letters", "place", "at")),
     (FourthSteps, Paper, "fourthsteps", ("rows", "value")),
+    (FourthSign, Paper, "fourthsign", ("value", "letters", "place", "at")), (RootOf, Paper, "rootof", ("form",)),
+    (NoRoot, Denial, "noroot", ("by",)), (Comes, Paper, "comes", ("letters", "place")),
+    (ByRest, Denial, "byrest", ("rest",)), (BySign, Denial, "bysign", ("k", "root")),
+    (ByFourth, Denial, "byfourth", ("k", "root")), (ByList, Denial, "bylist", ("many",)),
 )
 
 
@@ -100,7 +107,7 @@ class Papers(Case):
 
 
 class Classes(Case):
-    """All classes of papers of these stages."""
+    """All classes of papers."""
 
     def test_parts_and_attributes(self):
         values = ([1, [2]], ("x", [None]), [[[]]], [0, True])
