@@ -17,12 +17,12 @@ def idle_form(side):
 
 
 def _divisor_of(one, other):
-    """(d, u, v): the greatest d that divides two integers, one of them not 0, and d = u one + v other."""
+    """(d, u, v): d = u one + v other divides both integers, but for its sign it is the greatest one that does."""
     now, by = (one, 1, 0), (other, 0, 1)
     while by[0] != 0:
         times = now[0] // by[0]
         now, by = by, tuple([now[k] - times * by[k] for k in range(3)])
-    return now if now[0] > 0 else tuple([-part for part in now])
+    return now
 
 
 def _multiplied(one, other):
@@ -31,7 +31,7 @@ def _multiplied(one, other):
     other_first, other_half, _ = other.numbers
     square = one.side * one.side
     # No change is asked for: the document's facts tell the product by the greatest common divisor
-    # of both first numbers and the sum of both halves.
+    # of both first numbers and the sum of both halves. The other sign of it goes out again.
     part, u, v = _divisor_of(first, other_first)
     divisor, t, w = _divisor_of(part, half + other_half)
     middle = t * (u * first * other_half + v * other_first * half) + w * (half * other_half - square)
@@ -64,9 +64,7 @@ def power(form, times):
     while left > 0:
         if left % 2 == 1:
             told = _multiplied(told, square)
-        left //= 2
-        if left > 0:
-            square = _multiplied(square, square)
+        square, left = _multiplied(square, square), left // 2
     return told
 
 

@@ -22,14 +22,14 @@ def is_number_from(item, least):
     return is_number(item) and is_within(int(item), least, None)
 
 
-def _items_of(text):
+def items_of(text):
     """The items of a text."""
     if not isinstance(text, str):
         raise BadText(0, 0)
     return text.split(" ")
 
 
-def _need_many(items, many):
+def need_many(items, many):
     """Raise BadText if items, each of which can stand, are fewer than many."""
     if len(items) < many:
         raise BadText(0, len(items))
@@ -37,19 +37,19 @@ def _need_many(items, many):
 
 def read_numbers(text, leasts):
     """The integers that a text tells: as many as leasts, each from the one of leasts at its index on."""
-    items = _items_of(text)
+    items = items_of(text)
     for index, item in enumerate(items):
         if index == len(leasts) or not is_number_from(item, leasts[index]):
             raise BadText(0, index)
-    _need_many(items, len(leasts))
+    need_many(items, len(leasts))
     return [int(item) for item in items]
 
 
 def read_choices(text, choices):
     """The items of a text: as many as choices, each one of those of choices at its index."""
-    items = _items_of(text)
+    items = items_of(text)
     for index, item in enumerate(items):
         if index == len(choices) or item not in choices[index]:
             raise BadText(0, index)
-    _need_many(items, len(choices))
+    need_many(items, len(choices))
     return items

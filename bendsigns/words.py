@@ -4,11 +4,16 @@ from bendsigns.fours import exchanged_bends, need_four
 from bendsigns.needs import need_few_letters, need_word
 
 
+def runs(word):
+    """Whether a word of whatever length is running."""
+    return all([word[index] != word[index + 1] for index in range(len(word) - 1)])
+
+
 def is_running(word):
     """Whether no letter of a word stands twice, one right behind the other."""
     need_word(word, "word")
     need_few_letters(word)
-    return all([word[index] != word[index + 1] for index in range(len(word) - 1)])
+    return runs(word)
 
 
 def is_rising(four, word):

@@ -33,8 +33,9 @@ class Case(unittest.TestCase):
 
 
 def kept(error):
-    """The fields of an error, with True and 1 told apart."""
-    return {name: (type(value), value) for name, value in vars(error).items()}
+    """The fields of an error, with True and 1 told apart, and those of an error that is a field."""
+    return {name: (type(value), kept(value) if isinstance(value, Exception) else value)
+            for name, value in vars(error).items()}
 
 
 def look_alike(name, **attributes):

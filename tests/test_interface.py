@@ -74,6 +74,11 @@ FUNCTIONS = {
     "localsigns": {"local_signs": ["form"], "sign_by_rim": ["four"]},
     "squares": {"square_root_of": ["form"], "shows_root": ["form", "value"]},
     "verdicts": {"verdict": ["four", "number"], "barred": ["four", "number"]},
+    "check_verdicts": {"shows_verdict": ["four", "number", "value"]},
+    "desk_lines": {"read_line": ["line"]},
+    "desk_deeds": {"changed": ["shelf", "line"]},
+    "desk_asks": {"answer_of": ["shelf", "line"]},
+    "stories": {"replay": ["lines"], "parting": ["one", "other"]},
 }
 
 CLASSES = {
@@ -134,6 +139,13 @@ CLASSES = {
         "Comes": {"__init__": ["letters", "place"]}, "ByRest": {"__init__": ["rest"]},
         "BySign": {"__init__": ["k", "root"]}, "ByFourth": {"__init__": ["k", "root"]},
         "ByList": {"__init__": ["many"]},
+    },
+    "shelves": {"Shelf": {"__init__": ["fours"], "__eq__": ["other"], "kept": ["name"]}},
+    "desk": {
+        "Desk": {
+            "__init__": [], "__call__": ["line"], "__len__": [], "__contains__": ["x"], "__eq__": ["other"],
+            "told": ["lines"], "tried": ["lines"], "undo": [], "redo": [], "twin": [],
+        },
     },
 }
 

@@ -18,7 +18,7 @@ SYNTAX = {
     "List", "Tuple", "ListComp", "comprehension", "Lambda", "BoolOp", "And", "Or", "BinOp", "Add", "Sub", "Mult",
     "FloorDiv", "Mod", "UnaryOp", "USub", "Not", "IfExp", "Compare", "Eq", "NotEq", "Lt", "LtE", "Gt", "GtE", "In",
     "NotIn", "Is", "IsNot", "Call", "keyword", "Constant", "Load", "Store", "Yield",
-    "Dict",
+    "Dict", "Pow",
 }
 LIBRARY = {"math": {"gcd", "lcm", "isqrt", "comb", "perm", "factorial"}}
 BUILTINS = set(
@@ -68,6 +68,34 @@ def parameters(function):
     told = function.args
     rows = told.posonlyargs + told.args + told.kwonlyargs + [each for each in (told.vararg, told.kwarg) if each]
     return [each.arg for each in rows]
+
+
+def is_table_of_functions(value, above):
+    """Whether a value is a dict of functions that are defined above it, by literal keys."""
+    return isinstance(value, ast.Dict) and all(
+        isinstance(key, ast.Constant) and isinstance(each, ast.Name) and each.id in above
+        for key, each in zip(value.keys, value.values))
+
+
+def tables_of_functions(tree):
+    """The names of all tables of functions of a file."""
+    every = [node.name for node in tree.body if isinstance(node, ast.FunctionDef)]
+    return {node.targets[0].id for node in tree.body
+            if isinstance(node, ast.Assign) and is_table_of_functions(node.value, every) and node.value.keys}
+
+
+def called_locals(tree):
+    """The local variables of a file that may be called: items of a table of functions, and desks."""
+    found = set()
+    for node in ast.walk(tree):
+        if isinstance(node, ast.Assign) and isinstance(node.targets[0], ast.Name):
+            value = node.value
+            if isinstance(value, ast.Subscript) and isinstance(value.value, ast.Name):
+                if value.value.id in tables_of_functions(tree):
+                    found.add(node.targets[0].id)
+            if ast.unparse(value) in ("Desk()", "self.twin()"):
+                found.add(node.targets[0].id)
+    return found
 
 
 def own_names():
@@ -190,7 +218,8 @@ class Statements(unittest.TestCase):
                 if isinstance(node, ast.Assign):
                     self.assertEqual(len(node.targets), 1)
                     self.assertIsInstance(node.targets[0], ast.Name)
-                    ast.literal_eval(node.value)
+                    if not is_table_of_functions(node.value, bound):
+                        ast.literal_eval(node.value)
                     bound.append(node.targets[0].id)
                 elif not isinstance(node, ast.ImportFrom):
                     bound.append(node.name)
@@ -360,7 +389,7 @@ class Expressions(unittest.TestCase):
                 self.assertRegex(told, r"^(_|_?[A-Za-z][A-Za-z0-9_]*)$", name)
                 self.assertNotIn(told, UNUSED, name)
         for name, node in nodes(ast.Attribute):
-            self.assertTrue(not node.attr.startswith("_") or node.attr in ("__init__", "__class__", "__name__"))
+            self.assertTrue(re.match("_?[a-z]", node.attr) or node.attr in ("__init__", "__class__", "__name__"))
         for name, text in TEXTS.items():
             plain = re.sub(r"\w+\.__class__\.__name__", "", text)
             self.assertNotIn("__class__", plain)
@@ -390,7 +419,8 @@ class Expressions(unittest.TestCase):
         for name, node in nodes(ast.Call):
             if isinstance(node.func, ast.Name):
                 imported = {each.name for told in TREES[name].body if isinstance(told, ast.ImportFrom) for each in told.names}
-                self.assertIn(node.func.id, own | BUILTINS | imported, (name, node.lineno))
+                fine = own | BUILTINS | imported | called_locals(TREES[name])
+                self.assertIn(node.func.id, fine, (name, node.lineno))
                 if node.func.id in BUILTINS:
                     keys = {"sorted": {"key", "reverse"}, "min": {"key", "default"}, "max": {"key", "default"}}
                     self.assertLessEqual({each.arg for each in node.keywords}, keys.get(node.func.id, set()))
@@ -429,10 +459,21 @@ class Expressions(unittest.TestCase):
         for name, node in nodes(ast.Attribute):
             self.assertIn(node.attr, assigned | methods | METHODS | {"__init__", "__class__", "__name__"})
 
-    def test_attributes_are_set_through_self(self):
-        for name, node in nodes(ast.Attribute):
-            if isinstance(node.ctx, ast.Store):
-                self.assertEqual(node.value.id, "self", (name, node.lineno))
+    def test_attributes_are_set_through_a_local_name(self):
+        for name, tree in TREES.items():
+            outer = {each.name for node in tree.body if isinstance(node, ast.ImportFrom) for each in node.names}
+            outer.update(node.name for node in tree.body if isinstance(node, (ast.FunctionDef, ast.ClassDef)))
+            outer.update(node.targets[0].id for node in tree.body if isinstance(node, ast.Assign))
+            for node in ast.walk(tree):
+                if isinstance(node, ast.Attribute) and isinstance(node.ctx, ast.Store):
+                    self.assertIsInstance(node.value, ast.Name)
+                    self.assertNotIn(node.value.id, outer, (name, node.lineno))
+
+    def test_exponents(self):
+        for name, node in nodes(ast.BinOp):
+            if isinstance(node.op, ast.Pow):
+                self.assertIsInstance(node.right, ast.Constant)
+                self.assertTrue(0 <= node.right.value <= 64, (name, node.lineno))
 
 
 if __name__ == "__main__":

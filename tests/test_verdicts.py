@@ -203,6 +203,7 @@ class Barred(Case):
         for value in NO_NUMBERS:
             self.assert_error(BadNumber("number"), barred, COINS, value)
             self.assert_error(BadNumber("number"), barred, FLAT, value)
+            self.assert_error(BadNumber("number"), barred, Four((-2, 3, 6, 7)), value)
 
 
 if __name__ == "__main__":
